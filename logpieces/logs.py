@@ -47,6 +47,46 @@ def do_held(book, numbers, row):
     return book.tell_held()
 
 
+def do_place(book, numbers, row):
+    return book.tell_place(numbers[0], numbers[1])
+
+
+def do_without(book, numbers, row):
+    return book.tell_without(numbers[0])
+
+
+def do_weighty(book, numbers, row):
+    return book.tell_weighty()
+
+
+def do_exchange(book, numbers, row):
+    return book.tell_exchange(numbers[0], numbers[1])
+
+
+def do_push(book, numbers, row):
+    return book.push_event(row)
+
+
+def do_pop(book, numbers, row):
+    return book.pop_event()
+
+
+def do_window(book, numbers, row):
+    return book.tell_window()
+
+
+def do_trays(book, numbers, row):
+    return book.tell_trays()
+
+
+def do_windows(book, numbers, row):
+    return book.tell_windows(numbers[0])
+
+
+def do_pieces(book, numbers, row):
+    return book.tell_pieces()
+
+
 def do_text(book, numbers, row):
     return book.tell_text(numbers[0])
 
@@ -64,6 +104,16 @@ CALLS = {
     8: (0, False, do_answer),
     9: (0, False, do_since),
     10: (0, False, do_held),
+    11: (2, False, do_place),
+    12: (1, False, do_without),
+    13: (0, False, do_weighty),
+    14: (2, False, do_exchange),
+    15: (0, True, do_push),
+    16: (0, False, do_pop),
+    17: (0, False, do_window),
+    18: (0, False, do_trays),
+    19: (1, False, do_windows),
+    20: (0, False, do_pieces),
     21: (1, False, do_text),
 }
 

@@ -18,6 +18,13 @@ class Rests:
         self.holding = holding
         self.verdicts = verdicts
 
+    def rest_after(self, start, signs):
+        """The rest that events with these numbers of signs leave behind the rest they start from."""
+        rest = start
+        for sign in signs:
+            rest = self.moves[rest][sign]
+        return rest
+
 
 def verdict_of(rest):
     if 0 not in rest:

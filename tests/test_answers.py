@@ -2,9 +2,8 @@
 
 import unittest
 
-from tests.writing import ask, events_text, last
+from tests.writing import FAR, ask, events_text, last
 
-FAR = 1000000000000000000
 A = "a@s#0+0"
 B = "b@s#0+0"
 C = "c@s#0+0"

@@ -36,6 +36,13 @@ FORBIDDEN_WORDS = re.compile(
     r"\b(type|typing|typing_extensions|enum|Enum|IntEnum|StrEnum|Flag|IntFlag|Generic|Protocol|ABC|ABCMeta|namedtuple"
     r"|NamedTuple|TypedDict|TYPE_CHECKING|abstractmethod)\b|dataclass|overload|contextmanager")
 WALKED_AT_ONCE = ("zip", "enumerate", "reversed", "range")
+WALKED_METHODS = ("items", "keys", "values")
+WALKERS = ("list", "tuple", "dict", "sorted", "sum", "any", "all", "enumerate", "zip", "min", "max")
+CHANGES = ("append", "clear", "extend", "insert", "pop", "remove", "reverse", "setdefault", "update")
+KEYWORDS = {
+    "sorted": ("key", "reverse"), "min": ("key", "default"), "max": ("key", "default"), "sum": ("start",),
+    "enumerate": ("start",), "zip": ("strict",),
+}
 TAKEN_BY_VALUES = {
     name for kind in (str, int, list, dict, set, bytes, tuple) for name in dir(kind) if not name.startswith("__")
 }
@@ -85,6 +92,24 @@ def is_plain(node, above):
     if isinstance(node, ast.Name):
         return node.id in above
     return isinstance(node, ast.Constant) and isinstance(node.value, (int, str, type(None)))
+
+
+def called_name(call):
+    return call.func.id if isinstance(call.func, ast.Name) else getattr(call.func, "attr", "")
+
+
+def changed_in(statements):
+    """What the statements change in place, as it is written there."""
+    found = []
+    for statement in statements:
+        for node in ast.walk(statement):
+            if isinstance(node, ast.Subscript) and isinstance(node.ctx, ast.Store):
+                found.append(ast.unparse(node.value))
+            if isinstance(node, ast.AugAssign):
+                found.append(ast.unparse(node.target))
+            if isinstance(node, ast.Call) and isinstance(node.func, ast.Attribute) and node.func.attr in CHANGES:
+                found.append(ast.unparse(node.func.value))
+    return found
 
 
 class Language(unittest.TestCase):
@@ -222,9 +247,73 @@ class Language(unittest.TestCase):
             for node in ast.walk(tree):
                 if isinstance(node, (ast.For, ast.comprehension)):
                     allowed.append(node.iter)
+                if isinstance(node, ast.Call) and isinstance(node.func, ast.Name) and node.func.id in WALKERS:
+                    allowed += node.args[:1]
             for node in ast.walk(tree):
-                if isinstance(node, ast.Call) and isinstance(node.func, ast.Name) and node.func.id in WALKED_AT_ONCE:
-                    self.assertIn(node, allowed, node.lineno)
+                if isinstance(node, ast.Call) and called_name(node) in WALKED_AT_ONCE + WALKED_METHODS:
+                    self.assertIn(node, allowed, (path.name, node.lineno))
+
+    def test_what_a_loop_walks_is_not_changed(self):
+        for path, tree in self.each():
+            for loop in ast.walk(tree):
+                if isinstance(loop, ast.For):
+                    walked = [ast.unparse(node) for node in ast.walk(loop.iter)
+                              if isinstance(node, (ast.Name, ast.Attribute))]
+                    for changed in changed_in(loop.body):
+                        self.assertNotIn(changed, walked, (path.name, loop.lineno))
+
+    def test_no_sets(self):
+        # The rules let a set stand in a few places; the package does without.
+        for path, tree in self.each():
+            for node in ast.walk(tree):
+                self.assertNotIsInstance(node, (ast.Set, ast.SetComp))
+                if isinstance(node, ast.Name):
+                    self.assertNotIn(node.id, ("set", "frozenset"), path.name)
+
+    def test_errors_are_the_packages_own(self):
+        # Stricter than the rules: none of Python's own errors is taken.
+        own = [node.name for path, tree in self.each() for node in ast.walk(tree) if isinstance(node, ast.ClassDef)]
+        for path, tree in self.each():
+            for node in ast.walk(tree):
+                if isinstance(node, ast.ExceptHandler):
+                    self.assertIsInstance(node.type, ast.Name)
+                    self.assertIn(node.type.id, own)
+                if isinstance(node, ast.Raise):
+                    self.assertIsInstance(node.exc, ast.Call)
+                    self.assertIn(node.exc.func.id, own)
+
+    def test_names_of_pythons_own_are_called(self):
+        for path, tree in self.each():
+            allowed = []
+            for node in ast.walk(tree):
+                if isinstance(node, ast.Call):
+                    allowed += [node.func] + [keyword.value for keyword in node.keywords if keyword.arg == "key"]
+                    if called_name(node) in OWN_NAMES + OWN_METHODS:
+                        for keyword in node.keywords:
+                            self.assertIn(keyword.arg, KEYWORDS.get(called_name(node), ()), (path.name, node.lineno))
+                if isinstance(node, ast.ClassDef):
+                    allowed += node.bases
+                if isinstance(node, ast.Attribute) and node.attr == "__init__":
+                    allowed.append(node.value)
+            for node in ast.walk(tree):
+                if isinstance(node, ast.Name) and node.id in OWN_NAMES:
+                    self.assertIn(node, allowed, (path.name, node.lineno))
+
+    def test_methods_are_called_where_they_stand(self):
+        methods = [part.name for path, tree in self.each() for node in ast.walk(tree) if isinstance(node, ast.ClassDef)
+                   for part in node.body if isinstance(part, ast.FunctionDef)]
+        for path, tree in self.each():
+            called = [node.func for node in ast.walk(tree) if isinstance(node, ast.Call)]
+            for node in ast.walk(tree):
+                if isinstance(node, ast.Attribute) and node.attr in methods + OWN_METHODS:
+                    self.assertIn(node, called, (path.name, node.lineno))
+
+    def test_beginnings_of_objects_give_nothing_back(self):
+        for path, tree in self.each():
+            for function in functions(tree):
+                if function.name == "__init__":
+                    self.assertFalse([node for node in ast.walk(function)
+                                      if isinstance(node, ast.Return) and node.value is not None])
 
     def test_lists_of_a_files_top_are_only_read(self):
         for path, tree in self.each():

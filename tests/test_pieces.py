@@ -1,10 +1,9 @@
-"""append, put, insert, remove, cut, glue and text: what they do, their refusals and these' order."""
+"""append, put, insert, remove, cut, glue, pieces and text: what they do, their refusals and these' order."""
 
 import unittest
 
-from tests.writing import ask, events_text, last, text_answer
+from tests.writing import FAR, appended, ask, events_text, last, text_answer
 
-FAR = 1000000000000000000
 A = "a@s#1+1"
 B = "b@s#2+2"
 C = "c@s#3+3"
@@ -91,10 +90,42 @@ class Text(unittest.TestCase):
         self.assertEqual(last(("text", 0)), [-2])
 
 
+class Pieces(unittest.TestCase):
+    def test_how_many_events_each_has(self):
+        self.assertEqual(last(("pieces",)), [0])
+        self.assertEqual(last(("append", ""), ("pieces",)), [0, 0])
+        self.assertEqual(last(*appended(A, "", f"{A} {B}", "", events_text(40)), ("pieces",)), [0, 1, 0, 2, 0, 40])
+        self.assertEqual(last(*FULL, ("pieces",)), [0] + [1] * 60)
+
+    def test_behind_each_change(self):
+        told = ask(*appended(f"{A} {B} {C}", D), ("cut", 0, 1), ("pieces",), ("text", 0), ("text", 1), ("glue", 1),
+                   ("pieces",), ("text", 1), ("text", 2), ("insert", 1, ""), ("pieces",), ("text", 1), ("text", 2),
+                   ("remove", 0), ("pieces",), ("text", 0), ("text", 1), ("put", 0, f"{D} {D}"), ("pieces",),
+                   ("remove", 0), ("remove", 0), ("pieces",), ("text", 0))
+        texts = [text_answer(told[number]) for number in (4, 5, 8, 12, 13, 16, 17)]
+        self.assertEqual(texts, [A, f"{B} {C}", f"{B} {C} {D}", "", f"{B} {C} {D}", "", f"{B} {C} {D}"])
+        self.assertEqual([told[number] for number in (3, 7, 9, 11, 15, 19, 22, 23)],
+                         [[0, 1, 2, 1], [0, 1, 3], [-2], [0, 1, 0, 3], [0, 0, 3], [0, 2, 3], [0], [-2]])
+
+    def test_cut_off_ends(self):
+        told = ask(*appended(f"{A} {B}"), ("cut", 0, 0), ("pieces",), ("cut", 1, 2), ("pieces",), ("text", 0),
+                   ("text", 1), ("text", 2))
+        self.assertEqual(told[1:5], [[2], [0, 0, 2], [3], [0, 0, 2, 0]])
+        self.assertEqual([text_answer(answer) for answer in told[5:]], ["", f"{A} {B}", ""])
+
+    def test_behind_refusals_and_faults(self):
+        start = appended(A, f"{B} {C}", events_text(40))
+        for call in (("append", "?"), ("put", 0, events_text(41)), ("put", 3, A), ("insert", 4, A), ("insert", 0, "?"),
+                     ("remove", 3), ("remove", -1), ("cut", 0, 2), ("cut", 3, 0), ("glue", 1), ("glue", 2),
+                     ("glue", -1), ("text", 3), ("wish", "?")):
+            with self.subTest(call=call):
+                self.assertEqual(last(*start, call, ("pieces",)), [0, 1, 2, 40])
+
+
 class Refusals(unittest.TestCase):
     def unchanged(self, start, call, answer):
         with self.subTest(call=call):
-            checks = (("text", 0), ("text", 1), ("text", 2), ("held",), ("answer",))
+            checks = (("pieces",), ("text", 0), ("text", 1), ("text", 2), ("held",), ("answer",))
             told = ask(*start, call, *checks)
             self.assertEqual(told[len(start)], answer)
             self.assertEqual(told[len(start) + 1:], ask(*start, *checks)[len(start):])

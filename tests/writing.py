@@ -4,9 +4,11 @@ from logpieces.logs import answers
 
 NUMBERS = {
     "wish": 0, "append": 1, "put": 2, "insert": 3, "remove": 4, "cut": 5, "glue": 6, "summary": 7,
-    "answer": 8, "since": 9, "held": 10, "text": 21,
+    "answer": 8, "since": 9, "held": 10, "place": 11, "without": 12, "weighty": 13, "exchange": 14, "push": 15,
+    "pop": 16, "window": 17, "trays": 18, "windows": 19, "pieces": 20, "text": 21,
 }
-WITH_TEXT = ("wish", "append", "put", "insert")
+WITH_TEXT = ("wish", "append", "put", "insert", "push")
+FAR = 1000000000000000000
 
 
 def row(text):
@@ -49,6 +51,11 @@ def ask(*calls):
 
 def last(*calls):
     return ask(*calls)[-1]
+
+
+def appended(*runs):
+    """The calls that make these runs a new log's pieces."""
+    return tuple(("append", run) for run in runs)
 
 
 def text_answer(answer):
